@@ -1,0 +1,1 @@
+"""Closed queueing networks with exact fractions; the calls are in closedqueues.networks."""

@@ -1,0 +1,37 @@
+"""Numbers of customers, a tuple with one for each class, and products over them."""
+
+
+def numbers_within(limits):
+    """All numbers of which none is greater than its limit."""
+    found = [()]
+    for limit in limits:
+        longer = []
+        for numbers in found:
+            for customers in range(limit + 1):
+                longer.append(numbers + (customers,))
+        found = longer
+    return found
+
+
+def rest_of(numbers, part):
+    return tuple([whole - taken for whole, taken in zip(numbers, part)])
+
+
+def one_less(numbers, customer_class):
+    fewer = list(numbers)
+    fewer[customer_class] = fewer[customer_class] - 1
+    return tuple(fewer)
+
+
+def factorial(number):
+    product = 1
+    for factor in range(2, number + 1):
+        product = product * factor
+    return product
+
+
+def factorial_product(numbers):
+    product = 1
+    for customers in numbers:
+        product = product * factorial(customers)
+    return product
