@@ -23,6 +23,14 @@ def one_less(numbers, customer_class):
     return tuple(fewer)
 
 
+def power(number, exponent):
+    """The product of this many times the number: 1 for none, of the number 0 too."""
+    product = 1
+    for turn in range(exponent):
+        product = product * number
+    return product
+
+
 def factorial(number):
     product = 1
     for factor in range(2, number + 1):

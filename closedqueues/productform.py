@@ -6,7 +6,7 @@ products then need no fractions, and in a quotient of two norms of the same
 stations and limits the scales cancel.
 """
 
-from closedqueues.counts import factorial, factorial_product, numbers_within, one_less, rest_of
+from closedqueues.counts import factorial, factorial_product, numbers_within, one_less, power, rest_of
 from closedqueues.ratios import lowest_terms
 
 
@@ -20,7 +20,7 @@ def service_product(servers, customers):
 def demand_product(demands, numbers):
     product = 1
     for demand, customers in zip(demands, numbers):
-        product = product * demand ** customers
+        product = product * power(demand, customers)
     return product
 
 

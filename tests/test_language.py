@@ -26,6 +26,22 @@ def trees():
         yield path, text, ast.parse(text)
 
 
+def exponent_is_written(exponent):
+    return (isinstance(exponent, ast.Constant) and type(exponent.value) is int
+            and 0 <= exponent.value <= 64)
+
+
+def unwritten_powers(tree):
+    """The rows with a power whose exponent is not a written number from 0 to 64."""
+    rows = []
+    for node in ast.walk(tree):
+        if isinstance(node, (ast.BinOp, ast.AugAssign)) and isinstance(node.op, ast.Pow):
+            exponent = node.right if isinstance(node, ast.BinOp) else node.value
+            if not exponent_is_written(exponent):
+                rows.append(node.lineno)
+    return rows
+
+
 def bound_names(tree):
     for node in ast.walk(tree):
         if isinstance(node, (ast.FunctionDef, ast.ClassDef)):
@@ -74,6 +90,16 @@ class Language(unittest.TestCase):
                     self.assertEqual(node.orelse, [], where)
                 if isinstance(node, (ast.FunctionDef, ast.ClassDef)):
                     self.assertEqual(node.decorator_list, [], where)
+
+    def test_exponents_are_written_out(self):
+        for path, text, tree in trees():
+            self.assertEqual(unwritten_powers(tree), [], path)
+
+    def test_unwritten_exponents_are_found(self):
+        for text in ("x ** n", "x ** 65", "x ** -1", "x ** (1 + 1)", "x **= n", "y = 3 * x ** len(xs)"):
+            self.assertEqual(unwritten_powers(ast.parse(text)), [1], text)
+        for text in ("x ** 0", "x ** 64", "x **= 2", "x * n"):
+            self.assertEqual(unwritten_powers(ast.parse(text)), [], text)
 
     def test_imports_are_the_packages_own(self):
         for path, text, tree in trees():

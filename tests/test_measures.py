@@ -73,6 +73,11 @@ class ByHand(unittest.TestCase):
                        ("mean_number", 1, 0), ("station_number", 0))
         self.assertEqual(told, [[0, 64, 1], [0, 0, 1], [0, 0, 1], [0, 0, 1], [0, 3, 1], [0, 0, 1]])
 
+    def test_demand_0_and_no_customers_give_the_factor_1(self):
+        net = Net([station(QUEUE, 0, 3), station(DELAY, 2, 0), station((0, 2), 0, 0)], [1, 1])
+        self.assertEqual(net.ask(("norm",), ("mean_number", 0, 1), ("mean_number", 1, 0)),
+                         [[0, 6, 1], [0, 1, 1], [0, 1, 1]])
+
     def test_results_of_more_than_64_bits(self):
         net = Net([station(QUEUE, 1000)], [12])
         self.assertEqual(net.ask(("norm",)), [[0, 1000 ** 12, 1]])
