@@ -17,10 +17,15 @@ def rest_of(numbers, part):
     return tuple([whole - taken for whole, taken in zip(numbers, part)])
 
 
+def with_customers(numbers, customer_class, customers):
+    """The numbers with this many customers of the class."""
+    changed = list(numbers)
+    changed[customer_class] = customers
+    return tuple(changed)
+
+
 def one_less(numbers, customer_class):
-    fewer = list(numbers)
-    fewer[customer_class] = fewer[customer_class] - 1
-    return tuple(fewer)
+    return with_customers(numbers, customer_class, numbers[customer_class] - 1)
 
 
 def power(number, exponent):

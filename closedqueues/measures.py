@@ -1,11 +1,9 @@
-"""The calls 6 to 12: they tell how the network works with its populations."""
+"""The calls 6 to 13 and 24: they tell how the network works with its populations."""
 
-from closedqueues.productform import class_mean, class_throughput, network_norm, station_mean
-from closedqueues.ratios import divided, times
-
-
-def fraction_answer(ratio):
-    return [0, ratio[0], ratio[1]]
+from closedqueues.productform import all_throughputs, class_mean, class_throughput, network_norm, station_mean
+from closedqueues.ratios import divided, is_less, times, total
+from closedqueues.refusals import NoResult
+from closedqueues.replies import fraction_answer
 
 
 def norm(network):
@@ -56,3 +54,30 @@ def busy(network, station, customer_class):
     network.check_proper()
     rate = class_throughput(network.stations, network.populations, customer_class)
     return fraction_answer(times(rate, network.stations[station].demands[customer_class]))
+
+
+def utilization(network, station):
+    network.check_station(station)
+    network.check_queue(station)
+    network.check_proper()
+    rates = all_throughputs(network.stations, network.populations)
+    return fraction_answer(utilization_of(network.stations[station], rates))
+
+
+def utilization_of(queue, rates):
+    used = total([times(rate, demand) for rate, demand in zip(rates, queue.demands)])
+    return divided(used, (queue.servers, 1))
+
+
+def bottleneck(network):
+    queues = [number for number, station in enumerate(network.stations) if station.is_delay == 0]
+    if len(queues) == 0:
+        raise NoResult()
+    network.check_proper()
+    rates = all_throughputs(network.stations, network.populations)
+    shares = [utilization_of(network.stations[number], rates) for number in queues]
+    fullest = 0
+    for place, share in enumerate(shares):
+        if is_less(shares[fullest], share):
+            fullest = place
+    return [queues[fullest], shares[fullest][0], shares[fullest][1]]

@@ -17,7 +17,7 @@ class Network:
 
     def __init__(self):
         self.stations = []
-        self.populations = []
+        self.populations = ()
 
     def check_exists(self):
         if len(self.stations) == 0:
@@ -35,8 +35,15 @@ class Network:
         if self.populations[customer_class] == 0:
             raise NoCustomers()
 
+    def check_queue(self, station):
+        if self.stations[station].is_delay == 1:
+            raise NoResult()
+
     def check_proper(self):
-        if not is_proper(self.stations, self.populations):
+        require_proper(self.stations, self.populations)
+
+    def check_simple(self):
+        if not is_simple(self.stations):
             raise NoResult()
 
 
@@ -53,3 +60,27 @@ def is_demanded(stations, customer_class):
         if station.demands[customer_class] > 0:
             return True
     return False
+
+
+def require_proper(stations, populations):
+    if not is_proper(stations, populations):
+        raise NoResult()
+
+
+def is_simple(stations):
+    """Whether all queues have one server."""
+    for station in stations:
+        if station.is_delay == 0 and station.servers > 1:
+            return False
+    return True
+
+
+def with_demand(stations, station, customer_class, demand):
+    """The stations with another demand at one of them; the given ones stay as they are."""
+    present = stations[station]
+    changed = Station(len(present.demands))
+    changed.is_delay = present.is_delay
+    changed.servers = present.servers
+    changed.demands = list(present.demands)
+    changed.demands[customer_class] = demand
+    return stations[:station] + [changed] + stations[station + 1:]

@@ -1,4 +1,4 @@
-"""Norms, throughputs and mean numbers from the product form.
+"""Norms, throughputs, mean numbers and probabilities from the product form.
 
 A station's factors are kept as whole numbers: each is multiplied by the scale
 of the station, a common denominator for all numbers within the limits. Sums of
@@ -6,7 +6,7 @@ products then need no fractions, and in a quotient of two norms of the same
 stations and limits the scales cancel.
 """
 
-from closedqueues.counts import factorial, factorial_product, numbers_within, one_less, power, rest_of
+from closedqueues.counts import factorial, factorial_product, numbers_within, one_less, power, rest_of, with_customers
 from closedqueues.ratios import lowest_terms
 
 
@@ -81,15 +81,32 @@ def network_norm(stations, populations):
     scale = 1
     for station in stations:
         scale = scale * factor_scale(station, populations)
-    return lowest_terms(norm_table(stations, populations)[tuple(populations)], scale)
+    return lowest_terms(norm_table(stations, populations)[populations], scale)
+
+
+def throughput_in(norms, populations, customer_class):
+    """The throughput of the class for populations that stand in the table of the norms."""
+    if populations[customer_class] == 0:
+        return (0, 1)
+    return lowest_terms(norms[one_less(populations, customer_class)], norms[populations])
 
 
 def class_throughput(stations, populations, customer_class):
-    if populations[customer_class] == 0:
-        return (0, 1)
+    return throughput_in(norm_table(stations, populations), populations, customer_class)
+
+
+def all_throughputs(stations, populations):
     norms = norm_table(stations, populations)
-    fewer = one_less(populations, customer_class)
-    return lowest_terms(norms[fewer], norms[tuple(populations)])
+    return [throughput_in(norms, populations, customer_class) for customer_class in range(len(populations))]
+
+
+def throughput_curve(stations, populations, customer_class):
+    """The throughputs of the class for each of its populations up to the one given here."""
+    norms = norm_table(stations, populations)
+    rates = []
+    for customers in range(populations[customer_class] + 1):
+        rates.append(throughput_in(norms, with_customers(populations, customer_class, customers), customer_class))
+    return rates
 
 
 def marginal_weights(stations, station, populations):
@@ -112,3 +129,23 @@ def station_mean(stations, populations, station):
     weights = marginal_weights(stations, station, populations)
     weighted = sum([sum(numbers) * weight for numbers, weight in weights.items()])
     return lowest_terms(weighted, sum(weights.values()))
+
+
+def marginal_probability(stations, populations, station, numbers):
+    weights = marginal_weights(stations, station, populations)
+    return lowest_terms(weights.get(tuple(numbers), 0), sum(weights.values()))
+
+
+def sum_probability(stations, populations, station, customers):
+    """How likely this many customers of all classes together are at the station."""
+    weights = marginal_weights(stations, station, populations)
+    found = sum([weight for numbers, weight in weights.items() if sum(numbers) == customers])
+    return lowest_terms(found, sum(weights.values()))
+
+
+def rows_probability(stations, populations, rows):
+    """How likely these numbers at all stations are; they sum to the populations."""
+    weight = 1
+    for station, numbers in zip(stations, rows):
+        weight = weight * scaled_factor(station, numbers, factor_scale(station, populations))
+    return lowest_terms(weight, norm_table(stations, populations)[populations])

@@ -58,6 +58,10 @@ class Net:
     def __init__(self, stations, populations):
         self.stations = stations
         self.populations = tuple(populations)
+        # What takes long to count is counted once.
+        self.weighed = None
+        self.total = None
+        self.nearby = {}
 
     def calls(self):
         """The calls that make this network."""
@@ -85,9 +89,9 @@ class Net:
     def value(self, *question):
         return as_fraction(self.ask(question)[0])
 
-    def states(self, populations):
+    def states(self):
         """All ways to distribute the customers: for each station its numbers."""
-        ways = [list(spreads(population, len(self.stations))) for population in populations]
+        ways = [list(spreads(population, len(self.stations))) for population in self.populations]
         for choice in product(*ways):
             yield list(zip(*choice))
 
@@ -97,21 +101,75 @@ class Net:
             weight *= factor(station, numbers)
         return weight
 
-    def norm(self, populations=None):
-        populations = self.populations if populations is None else populations
-        return sum((self.weight(state) for state in self.states(populations)), Fraction(0))
+    def weights(self):
+        """All states, each with its weight."""
+        if self.weighed is None:
+            self.weighed = [(state, self.weight(state)) for state in self.states()]
+        return self.weighed
+
+    def norm(self):
+        if self.total is None:
+            self.total = sum((weight for state, weight in self.weights()), Fraction(0))
+        return self.total
 
     def throughput(self, customer_class):
         if self.populations[customer_class] == 0:
             return Fraction(0)
-        fewer = list(self.populations)
-        fewer[customer_class] -= 1
-        return self.norm(fewer) / self.norm()
+        return self.less(customer_class).norm() / self.norm()
 
     def mean_number(self, station, customer_class):
-        total = sum(self.weight(state) * state[station][customer_class]
-                    for state in self.states(self.populations))
-        return total / self.norm()
+        return self.expected(lambda state: state[station][customer_class])
+
+    def expected(self, value_of):
+        """The sum of a value of each state, each times the probability of the state."""
+        return sum(weight * value_of(state) for state, weight in self.weights()) / self.norm()
+
+    def chances(self, key_of):
+        """For each key that a state has the sum of the probabilities of these states."""
+        norm = self.norm()
+        found = {}
+        for state, weight in self.weights():
+            found[key_of(state)] = found.get(key_of(state), 0) + weight / norm
+        return found
+
+    def utilization(self, station):
+        demands = self.stations[station][2]
+        busy = sum(demand * self.throughput(customer_class)
+                   for customer_class, demand in enumerate(demands))
+        return Fraction(busy) / self.stations[station][1]
+
+    def is_simple(self):
+        return all(is_delay or servers == 1 for is_delay, servers, demands in self.stations)
+
+    def with_population(self, customer_class, population):
+        populations = list(self.populations)
+        populations[customer_class] = population
+        if tuple(populations) not in self.nearby:
+            self.nearby[tuple(populations)] = Net(self.stations, populations)
+        return self.nearby[tuple(populations)]
+
+    def less(self, customer_class):
+        return self.with_population(customer_class, self.populations[customer_class] - 1)
+
+    def with_demand(self, place, customer_class, demand):
+        stations = list(self.stations)
+        is_delay, servers, demands = stations[place]
+        demands = list(demands)
+        demands[customer_class] = demand
+        stations[place] = (is_delay, servers, tuple(demands))
+        return Net(stations, self.populations)
+
+    def classes(self):
+        return range(len(self.populations))
+
+    def places(self):
+        return range(len(self.stations))
+
+    def queues(self):
+        return [place for place in self.places() if not self.stations[place][0]]
+
+    def all_numbers(self):
+        return list(product(*[range(population + 1) for population in self.populations]))
 
 
 def spreads(customers, places):
@@ -145,6 +203,14 @@ def as_answer(value):
     return [0, value.numerator, value.denominator]
 
 
+def as_list(values):
+    """A count and the fractions, as mean_values, curve and gain answer them."""
+    told = [len(values)]
+    for value in values:
+        told.extend(as_answer(value)[1:])
+    return told
+
+
 QUEUE = (0, 1)
 DELAY = (1, 1)
 
@@ -175,4 +241,14 @@ SAMPLES = [
          station(QUEUE, 2)], [6]),
     Net([station(QUEUE, 1, 5, 2), station(DELAY, 9, 0, 4), station((0, 2), 3, 3, 0),
          station(QUEUE, 0, 2, 6), station((0, 6), 8, 1, 7)], [2, 1, 2]),
+    Net([station(QUEUE, 3, 5), station(DELAY, 10, 4), station(QUEUE, 2, 0)], [3, 2]),
+    Net([station(DELAY, 9, 0, 4), station(QUEUE, 1, 5, 2), station(QUEUE, 3, 3, 0), station(DELAY, 8, 1, 7),
+         station(QUEUE, 0, 2, 6)], [1, 2, 1]),
+    Net([station(QUEUE, 6, 0, 1), station(QUEUE, 5, 0, 7), station(DELAY, 2, 0, 0)], [2, 0, 5]),
+    Net([station(DELAY, 40, 900), station(QUEUE, 3, 1000)], [12, 1]),
+    Net([station(QUEUE, 4, 0, 9), station((0, 2), 1, 0, 1)], [0, 0, 0]),
 ]
+
+# Class 1 has a customer, but no demand.
+IMPROPER = [("create", 2, 2), ("set_demand", 0, 0, 3), ("set_population", 0, 2),
+            ("set_population", 1, 1)]

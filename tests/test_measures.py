@@ -3,7 +3,7 @@
 import unittest
 from fractions import Fraction
 
-from helper import DELAY, GREATEST, QUEUE, SAMPLES, Net, as_answer, last, run, station
+from helper import DELAY, GREATEST, IMPROPER, QUEUE, SAMPLES, Net, as_answer, last, run, station
 
 
 def pairs_of(net):
@@ -124,8 +124,6 @@ class BesideAPlainCount(unittest.TestCase):
 
 
 class Errors(unittest.TestCase):
-    IMPROPER = [("create", 2, 2), ("set_demand", 0, 0, 3), ("set_population", 0, 2),
-                ("set_population", 1, 1)]
     HALF = [("create", 2, 2), ("set_demand", 1, 0, 3), ("set_population", 0, 2)]
 
     def test_no_such_station_or_class(self):
@@ -135,7 +133,7 @@ class Errors(unittest.TestCase):
                  ("mean_number", GREATEST, 0), ("mean_number", 0, GREATEST),
                  ("station_number", GREATEST), ("residence", GREATEST, 0),
                  ("residence", 0, GREATEST), ("busy", GREATEST, 0), ("busy", 0, GREATEST)]
-        for made in (self.IMPROPER, self.HALF):
+        for made in (IMPROPER, self.HALF):
             for call in calls:
                 self.assertEqual(last(*made, call), [-2], call)
 
@@ -145,10 +143,10 @@ class Errors(unittest.TestCase):
                  ("station_number", 1), ("residence", 0, 0), ("residence", 1, 1), ("busy", 0, 0),
                  ("busy", 1, 1)]
         for call in calls:
-            self.assertEqual(last(*self.IMPROPER, call), [-33], call)
+            self.assertEqual(last(*IMPROPER, call), [-33], call)
 
     def test_proper_as_soon_as_each_class_has_a_demand(self):
-        told = run(*self.IMPROPER, ("norm",), ("set_demand", 1, 1, 1), ("norm",),
+        told = run(*IMPROPER, ("norm",), ("set_demand", 1, 1, 1), ("norm",),
                    ("set_demand", 1, 1, 0), ("norm",), ("set_population", 1, 0), ("norm",))
         self.assertEqual(told[4::2], [[-33], [0, 9, 1], [-33], [0, 9, 1]])
 
